@@ -1,0 +1,1 @@
+"""Numbers in words, said and read back."""
