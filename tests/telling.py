@@ -54,6 +54,23 @@ def read(by, most, text):
     return [3, by, most, len(text)] + list(text)
 
 
+def gaps(by, a, b):
+    return [4, by, a, b]
+
+
+def alike(by, a, b):
+    return [5, by, a, b]
+
+
+def longest(by, a, b):
+    return [6, by, a, b]
+
+
+def in_order(by, numbers):
+    """The call sorted."""
+    return [7, by, len(numbers)] + list(numbers)
+
+
 def split(answered):
     """Each call's answer by itself."""
     parts = []
@@ -75,6 +92,11 @@ def said(text):
 
 def listed(*numbers):
     return [len(numbers), len(numbers)] + list(numbers)
+
+
+def found(*numbers):
+    """What alike and longest answer where they find two numbers, without the number ahead."""
+    return [len(numbers)] + list(numbers)
 
 
 def plainly_said(sets, by, n):
